@@ -6,21 +6,11 @@ import (
 	"shardkeep/field"
 )
 
-func productTable() *[256][256]byte {
+func tableOf(f func(a, b byte) byte) *[256][256]byte {
 	var table [256][256]byte
 	for a := range 256 {
 		for b := range 256 {
-			table[a][b] = field.Mul(byte(a), byte(b))
-		}
-	}
-	return &table
-}
-
-func sumTable() *[256][256]byte {
-	var table [256][256]byte
-	for a := range 256 {
-		for b := range 256 {
-			table[a][b] = field.Add(byte(a), byte(b))
+			table[a][b] = f(byte(a), byte(b))
 		}
 	}
 	return &table
@@ -28,7 +18,7 @@ func sumTable() *[256][256]byte {
 
 // P12
 func TestLawsOfTwo(t *testing.T) {
-	sum, product := sumTable(), productTable()
+	sum, product := tableOf(field.Add), tableOf(field.Mul)
 	for a := range 256 {
 		if sum[a][0] != byte(a) || sum[a][a] != 0 {
 			t.Errorf("%d: 0 is not nothing, or it is not its own opposite", a)
@@ -49,7 +39,7 @@ func TestLawsOfTwo(t *testing.T) {
 
 // P12
 func TestLawsOfThree(t *testing.T) {
-	sum, product := sumTable(), productTable()
+	sum, product := tableOf(field.Add), tableOf(field.Mul)
 	for a := range 256 {
 		for b := range 256 {
 			for c := range 256 {
