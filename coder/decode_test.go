@@ -265,3 +265,20 @@ func TestOrderOfErrors(t *testing.T) {
 		}
 	}
 }
+
+// P1, P31: what fits is what Decode does not refuse, also where k is no number to divide by.
+func TestFits(t *testing.T) {
+	numbers := append(aroundBounds(), 4, 999, 1000, 1001)
+	for _, n := range numbers {
+		for _, k := range numbers {
+			for _, size := range numbers {
+				for _, x := range []api.Shard{{}, {At: n - 1, Text: "ab"}, {At: n}, {At: -1}, {Text: "ab"}, {Text: mixed(1000, 1)}} {
+					_, err := coder.Decode(n, k, size, []api.Shard{x})
+					if got, want := coder.Fits(n, k, size, x), err == nil || err == api.ErrFew; got != want {
+						t.Errorf("Fits(%d, %d, %d, shard %d of %d bytes) = %v, want %v", n, k, size, x.At, len(x.Text), got, want)
+					}
+				}
+			}
+		}
+	}
+}
