@@ -88,6 +88,19 @@ func TestCheckOfEachByte(t *testing.T) {
 	}
 }
 
+// P50: a name is what may be the one node of a ring.
+func TestIsName(t *testing.T) {
+	names := []string{"", "a", "-", "node-1", "a b", "é", "\xff", strings.Repeat("n", api.MaxName), strings.Repeat("n", api.MaxName+1)}
+	for b := range 256 {
+		names = append(names, string([]byte{byte(b)}), "n"+string([]byte{byte(b)}))
+	}
+	for _, name := range names {
+		if ring.IsName(name) != (ring.Check([]string{name}) == nil) {
+			t.Errorf("%q: %v", name, ring.IsName(name))
+		}
+	}
+}
+
 // P51
 func TestCheckOfWrongNodes(t *testing.T) {
 	for _, c := range wrongNodes() {
