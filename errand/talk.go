@@ -1,40 +1,42 @@
-package ask
+package errand
 
 import (
 	"slices"
 	"strings"
 
 	"shardkeep/api"
+	"shardkeep/quorum"
 	"shardkeep/wire"
 )
 
-// talk with all members of a configuration: each is sent a message, and its first answer counts.
+// talk with all members of a place: each is sent a message, and its first answer counts.
 type talk struct {
-	name, key  string
-	op, config int
-	among      api.Config
-	enough     int
-	// awaited is the Kind of the answers that count.
+	name, key string
+	op        int
+	// place and awaited are where the answers that count come from, and their Kind.
+	place   Place
 	awaited string
+	enough  int
 	// By member that has answered: its versions, where they are of use. It is nil where the talk has ended.
 	heard map[string][]api.Version
 }
 
-// send a message to each member, with the versions of its number.
-func (t *talk) send(kind string, versions func(i int) []api.Version) []wire.Message {
+// send a message to each member of a place, with the versions of its number.
+func (t *talk) send(to Place, kind string, versions func(i int) []api.Version) []wire.Message {
 	var l []wire.Message
-	for i, member := range t.among.Members {
+	for i, member := range to.Config.Members {
 		l = append(l, wire.Message{
 			From: strings.Clone(t.name), To: strings.Clone(member), Kind: kind, Key: strings.Clone(t.key),
-			Op: t.op, Config: t.config, L: versions(i),
+			Op: t.op, Config: to.Number, L: versions(i),
 		})
 	}
 	return l
 }
 
-// await answers of a Kind, of which none has come yet.
-func (t *talk) await(kind string) {
-	t.awaited = kind
+// await answers of a Kind, of which none has come yet, from the members of a place that was checked.
+func (t *talk) await(from Place, kind string) {
+	t.place, t.awaited = from, kind
+	t.enough, _ = quorum.Enough(from.Config)
 	t.heard = map[string][]api.Version{}
 }
 
@@ -43,11 +45,11 @@ func (t *talk) stop() { t.heard = nil }
 
 // counts: is it an answer that is waited for, and the first one of its member?
 func (t *talk) counts(m wire.Message) bool {
-	if t.heard == nil || m.To != t.name || m.Kind != t.awaited || m.Key != t.key || m.Op != t.op || m.Config != t.config {
+	if t.heard == nil || m.To != t.name || m.Kind != t.awaited || m.Key != t.key || m.Op != t.op || m.Config != t.place.Number {
 		return false
 	}
 	_, already := t.heard[m.From]
-	return !already && slices.Contains(t.among.Members, m.From)
+	return !already && slices.Contains(t.place.Config.Members, m.From)
 }
 
 func (t *talk) note(from string, l []api.Version) {
@@ -64,18 +66,18 @@ func (t *talk) full() bool { return len(t.heard) >= t.enough }
 // told is a list for each member, in their order: of who has not answered an empty one.
 func (t *talk) told() [][]api.Version {
 	var lists [][]api.Version
-	for _, member := range t.among.Members {
+	for _, member := range t.place.Config.Members {
 		lists = append(lists, t.heard[member])
 	}
 	return lists
 }
 
-// copied shares no memory with the configuration that was handed over.
-func copied(c api.Config) api.Config {
-	members := make([]string, len(c.Members))
-	for i, member := range c.Members {
+// copied shares no memory with the place that was handed over.
+func copied(p Place) Place {
+	members := make([]string, len(p.Config.Members))
+	for i, member := range p.Config.Members {
 		members[i] = strings.Clone(member)
 	}
-	c.Members = members
-	return c
+	p.Config.Members = members
+	return p
 }
