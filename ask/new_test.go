@@ -226,3 +226,12 @@ func TestWhatAnAskIsMadeWith(t *testing.T) {
 		}
 	}
 }
+
+// P90, P1: names of clients, and of numbers that are no client's.
+func TestNames(t *testing.T) {
+	for who, want := range map[int]string{0: "c0", 5: "c5", 6: "c6", -1: "c-1", math.MaxInt: "c" + strconv.Itoa(math.MaxInt), math.MinInt: "c" + strconv.Itoa(math.MinInt)} {
+		if got := ask.Name(who); got != want {
+			t.Errorf("client %d is %q, want %q", who, got, want)
+		}
+	}
+}

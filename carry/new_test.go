@@ -220,3 +220,10 @@ func TestWhatACarryIsMadeWith(t *testing.T) {
 		}
 	}
 }
+
+// P110
+func TestName(t *testing.T) {
+	if carry.Name != "mover" {
+		t.Errorf("its name is %q", carry.Name)
+	}
+}
