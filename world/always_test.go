@@ -206,3 +206,67 @@ func TestLateMessages(t *testing.T) {
 		t.Errorf("got %v", e)
 	}
 }
+
+// sent are messages from one to one, of a Kind.
+func sent(from, name, kind string) func(m wire.Message) bool {
+	return func(m wire.Message) bool { return m.From == from && m.To == name && m.Kind == kind }
+}
+
+// P124: a tag that was taken for one text, refused, and not carried comes again for another one: who looked for it in the old configuration, where K have its first text at last, finds the second one.
+func TestATagThatComesAgain(t *testing.T) {
+	nodes := []string{"a", "b", "d", "e"}
+	w := made(t, nodes, 4, 2)
+	m := preferred(t, nodes, 4)
+	heard := func(from, name, kind string) {
+		t.Helper()
+		begins(t, w.Deliver(where(t, w, sent(from, name, kind))))
+	}
+	answered := func(who, asks, answers string, members ...string) {
+		t.Helper()
+		for _, member := range members {
+			heard(who, member, asks)
+			heard(member, who, answers)
+		}
+	}
+	next := func(x wire.Message) bool { return x.Config == 1 }
+	begins(t, w.Put(1, "never done"))
+	answered("c1", "look", "told", m[:3]...)
+	heard("c1", m[0], "keep")
+	begins(t, w.Put(0, "first"))
+	answered("c0", "look", "told", m[:3]...)
+	tag := api.Tag{N: 2}
+	if v := w.Flying()[where(t, w, sent("c0", m[1], "keep"))].L[0]; v.Tag != tag {
+		t.Fatalf("keeps %v: of no use", v)
+	}
+	heard("c0", m[1], "keep")
+	begins(t, w.Get(2))
+	begins(t, w.Change(nodes))
+	answered("mover", "seal", "sealed", m[1:]...)
+	configs(t, "nothing is carried", w, 2, 1)
+
+	heard("c0", m[0], "keep")
+	answered("c2", "look", "told", m[0])
+	stands(t, "two have the first text", w, 2, "looking")
+	answered("c0", "keep", "kept", m[2])
+	stands(t, "refused, and anew", w, 0, "looking")
+	only(w, next)
+	begins(t, w.Put(0, "second"))
+	only(w, next)
+	answered("c2", "look", "told", m[1])
+	stands(t, "refused, and anew", w, 2, "looking")
+	only(w, next)
+	moved(t, w, nodes)
+	begins(t, w.Get(3))
+	only(w, between("c3"))
+
+	e := w.Events()
+	for i, want := range []world.Event{
+		{Who: 0, Put: true, Tag: api.Tag{N: 1}, Text: "first"}, {Who: 0, Put: true, Tag: tag, Text: "second"},
+		{Who: 2, Tag: tag, Text: "second"}, {Who: 3, Tag: tag, Text: "second"},
+	} {
+		if len(e) != 4 || e[i].Who != want.Who || e[i].Put != want.Put || e[i].Tag != want.Tag || e[i].Text != want.Text {
+			t.Fatalf("events %v", e)
+		}
+	}
+	ordered(t, e)
+}
